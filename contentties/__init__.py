@@ -1,0 +1,1 @@
+"""Contentties: ties that can be kept whatever is wished."""
