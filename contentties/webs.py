@@ -123,7 +123,7 @@ def _need_bounds(bundles):
 
 def _degrees(size, numbers):
     """Return the tuple of the numbers of ties of all places."""
-    return tuple([sum([numbers.get((u, v), 0) for v in range(size)]) for u in range(size)])
+    return tuple([sum([numbers[(u, v)] for v in range(size) if (u, v) in numbers]) for u in range(size)])
 
 
 def _times(web, k):

@@ -5,7 +5,7 @@ import itertools
 import unittest
 
 from contentties.errors import TooMany
-from contentties.shapes import complete, line, moved, renamed
+from contentties.shapes import beside, complete, line, moved, renamed
 from contentties.spans import span
 from contentties.wants import Want
 from contentties.webs import Web
@@ -96,6 +96,28 @@ class Spans(Case):
                     (10 ** 12, 10 ** 12, 0), (-1, -1, 0)):
             for u, v in pairs_of(3):
                 self.told(WEB, row, u, v, Want())
+
+    def test_barred_by_places_that_the_bundle_does_not_touch(self):
+        for number in (2, 10, MOST):
+            wide = beside(complete(4, number), Web(1))
+            row = (number,) * 4
+            self.told(wide, (*row, 0), 0, 1, Want.between(0, number))
+            self.told(wide, (*row, 1), 0, 1, Want())
+            self.told(wide, (*row, -2), 0, 1, Want())
+            self.told(wide.changed(0, 4, 1), (*row, 2), 0, 1, Want())
+            self.told(wide.changed(2, 4, 1), (*row, 2), 0, 1, Want())
+            self.told(wide.changed(0, 4, MOST), (*row, 3 * number + 1), 0, 1, Want())
+            self.told(wide, (number + 1, *row), 0, 1, Want())
+            self.told(wide.changed(0, 4, 1), (number + 1, *row[1:], 1), 0, 1, Want.between(0, number))
+
+    def test_rows_beyond_the_web(self):
+        rng = seeded(66)
+        for _ in range(40):
+            web = random_web(rng, 4, 6, 0.2)
+            row = random_row(rng, web, 0)
+            u, v = rng.sample(range(4), 2)
+            expected = [x for x in range(web[u, v] + 1) if is_kept(web, row, u, v, x)]
+            self.same(members(span(web, row, u, v)), expected)
 
     def test_bundles_without_ties(self):
         self.told(WEB, (1, 2, 1), 0, 2, Want(0))

@@ -185,6 +185,7 @@ class Methods(Case):
         want = Want.between(-BOUND, BOUND)
         self.same(want.first(1000), list(range(-BOUND, -BOUND + 1000)))
         self.same(Want.stepped(1, BOUND).first(3), [1, 3, 5])
+        self.same(Want.stepped(0, BOUND).first(1000), list(range(0, 2000, 2)))
         self.same((Want(-7) | Want.stepped(0, BOUND)).first(3), [-7, 0, 2])
 
     def test_first_is_a_new_list(self):
@@ -249,6 +250,18 @@ class Operators(Case):
         want = Want(BOUND, -BOUND)
         self.same((want + 10 ** 12).corners, (10 ** 12 - BOUND, 10 ** 12 + BOUND))
         self.assertEqual((want + 10 ** 12) - 10 ** 12, want)
+
+    def test_operators_take_nothing_else(self):
+        want = Want(1, 2)
+        for value in (None, True, False, "1", (1,), {1}, Want):
+            for call in (lambda: want + value, lambda: value + want, lambda: want - value, lambda: value - want,
+                         lambda: want | value, lambda: want & value, lambda: want ^ value):
+                with self.assertRaises(TypeError):
+                    call()
+        for call in (lambda: want | 1, lambda: want & 1, lambda: want ^ 1, lambda: want + want, lambda: want - want):
+            with self.assertRaises(TypeError):
+                call()
+        self.same(members(want), [1, 2])
 
     def test_in(self):
         for numbers in itertools.islice(subsets(), 0, None, 3):

@@ -180,6 +180,16 @@ class Sums(Case):
             self.assertEqual(one * 1, one)
             self.assertEqual(one * 2, one + one)
 
+    def test_operators_take_nothing_else(self):
+        web = Web(2, [(0, 1, 2)])
+        for value in (None, True, False, "1", (1,), Web, Draft(web)):
+            for call in (lambda: web + value, lambda: web - value, lambda: web * value, lambda: value * web):
+                with self.assertRaises(TypeError):
+                    call()
+        for call in (lambda: web + 1, lambda: web - 1, lambda: web * web):
+            with self.assertRaises(TypeError):
+                call()
+
     def test_operands_stay(self):
         one, other = Web(2, [(0, 1, 5)]), Web(2, [(0, 1, 3)])
         for made in (one + other, one - other, 2 * one, one * 2):
