@@ -61,10 +61,33 @@ def odd_pieces(web, row, lots):
 
 def excess(web, row, lots):
     """Return the excess of lots for a row."""
+    return excess_in(framed(web, lots), row)
+
+
+def framed(web, lots):
+    """Return the frame of lots: what their excess takes from the web alone, whatever the row.
+
+    It is a tuple (s, t, ties, groups): ties is the number of ties at places of t, without
+    those to s, and groups has a tuple for each piece, with its places and its ties to t.
+    """
     s, t = lots
+    ties = sum([web.degrees[place] for place in t]) - web.crossing(s, t)
+    groups = [(piece, web.crossing(piece, t)) for piece in pieces(web, lots)]
+    return s, t, ties, groups
+
+
+def frames(web):
+    """Return the list of the frames of all lots of a web."""
+    return [framed(web, lots) for lots in every_lots(web.size)]
+
+
+def excess_in(frame, row):
+    """Return the excess, for a row, of the lots that have this frame."""
+    s, t, ties, groups = frame
     asked = sum([row[place] for place in s])
-    left_over = sum([web.degrees[place] - row[place] for place in t]) - web.crossing(s, t)
-    return asked + left_over - len(odd_pieces(web, row, lots))
+    left_over = ties - sum([row[place] for place in t])
+    weights = [sum([row[place] for place in piece]) + to_t for piece, to_t in groups]
+    return asked + left_over - sum([weight % 2 for weight in weights])
 
 
 def _is_ascending(thing, size):

@@ -50,9 +50,7 @@ class Want:
     def stepped(cls, low, high):
         """Return the Want of low, low + 2 .., as far as they are not above high."""
         _need_numbers(low, high)
-        if low % 2 == 1:
-            return cls(Runs((), _run(low, high)))
-        return cls(Runs(_run(low, high), ()))
+        return want_of_run(low, high)
 
     def least(self, parity):
         """Return the least integer of a parity, None if there is none."""
@@ -79,9 +77,8 @@ class Want:
         with_next = self & (self - 1)
         stretched = with_next | (with_next + 1)
         alone = self.without(stretched)
-        evens = [Want(Runs((run,), ())) for run in alone.evens]
-        odds = [Want(Runs((), (run,))) for run in alone.odds]
-        return sorted(_stretches(stretched) + evens + odds, key=lambda block: block.low)
+        runs = [want_of_run(low, high) for low, high in alone.evens + alone.odds]
+        return sorted(_stretches(stretched) + runs, key=lambda block: block.low)
 
     def __or__(self, other):
         if not isinstance(other, Want):
@@ -134,6 +131,13 @@ class Want:
 
     def __str__(self):
         return ", ".join(_words(self))
+
+
+def want_of_run(low, high):
+    """Return the Want of low, low + 2 .., as far as they are not above high, for any integers."""
+    if low % 2 == 1:
+        return Want(Runs((), _run(low, high)))
+    return Want(Runs(_run(low, high), ()))
 
 
 def _is_number(thing):

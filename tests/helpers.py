@@ -129,6 +129,36 @@ def plain_distance(one, other):
     return sum(abs(a - b) for a, b in zip(one, other))
 
 
+def granted(web):
+    """The rows that a small web grants."""
+    return {kept.degrees for kept in all_choices(web)}
+
+
+def plain_lack(rows, row):
+    """The lack of a row of a web that grants these rows."""
+    return min(plain_distance(row, other) for other in rows)
+
+
+def rows_from(wants, parity=None):
+    """All rows from small wants, in ascending order, those of a parity alone if one is asked for."""
+    rows = itertools.product(*[members(want) for want in wants])
+    return [row for row in rows if parity is None or sum(row) % 2 == parity]
+
+
+def random_wants(rng, web, most=3, beyond=1):
+    """Wants of at most so many integers, from below 0 to above the degrees."""
+    wants = []
+    for degree in web.degrees:
+        many = rng.randint(1, most)
+        wants.append(Want(*[rng.randint(-beyond, degree + beyond) for _ in range(many)]))
+    return tuple(wants)
+
+
+def kept_web(rng, web):
+    """A choice of a web."""
+    return Web(web.size, [(u, v, rng.randint(0, number)) for u, v, number in web.ties])
+
+
 def random_web(rng, size, most, empty=0.2):
     """A web of a size, some bundles of which are empty."""
     return Web(size, [(u, v, 0 if rng.random() < empty else rng.randint(0, most)) for u, v in pairs_of(size)])

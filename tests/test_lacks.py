@@ -9,20 +9,10 @@ from contentties.lacks import lack
 from contentties.lots import is_lots, parity
 from contentties.shapes import beside, complete, moved, renamed
 from contentties.webs import Web
-from tests.helpers import (
-    Case, all_choices, plain_distance, plain_excess, plain_lots, random_row, random_web, seeded,
-)
+from tests.helpers import Case, granted, plain_excess, plain_lack, plain_lots, random_row, random_web, seeded
 
 MOST = 10 ** 9
 WEB = Web(3, [(0, 1, 2), (2, 1, 1)])
-
-
-def granted(web):
-    return {kept.degrees for kept in all_choices(web)}
-
-
-def plain_lack(rows, row):
-    return min(plain_distance(row, other) for other in rows)
 
 
 class Lacks(Case):

@@ -33,7 +33,10 @@ INTERFACE = {
     "wants": "Want", "webs": "Web", "drafts": "Draft",
     "shapes": "complete line ring beside renamed moved",
     "lots": "is_row is_lots is_choice parity distance every_lots pieces odd_pieces excess",
-    "lacks": "lack", "spans": "span",
+    "lacks": "lack", "spans": "span", "grants": "grant closest",
+    "worst": "is_wants is_out_of has_row least_excess worst every",
+    "corners": "corner_rows charter is_charter", "widest": "widest ahead",
+    "spares": "spare lean settled nearest_barred",
 }
 
 
