@@ -2,13 +2,13 @@
 
 from contentties.errors import TooMany
 from contentties.grants import Plan
-from contentties.kinds import need_few_places
+from contentties.kinds import every_pick, multiplied, need_few_places
 from contentties.lots import is_choice, is_row
 
 
 def corner_rows(wants, parity, *, most=64):
     """Return the ascending list of the corner rows of a parity."""
-    if _number_of_rows(wants) > most:
+    if multiplied([len(want.corners) for want in wants]) > most:
         raise TooMany(most)
     return _rows_with(wants, parity)
 
@@ -30,20 +30,9 @@ def is_charter(web, wants, thing):
     return all([_is_entry(web, row, entry) for row, entry in zip(rows, thing)])
 
 
-def _number_of_rows(wants):
-    """Return the product of the numbers of corners."""
-    number = 1
-    for want in wants:
-        number = number * len(want.corners)
-    return number
-
-
 def _rows_with(wants, parity):
     """Return the ascending list of all corner rows of a parity."""
-    rows = [()]
-    for want in wants:
-        rows = [(*row, corner) for row in rows for corner in want.corners]
-    return [row for row in rows if sum(row) % 2 == parity]
+    return [row for row in every_pick([want.corners for want in wants]) if sum(row) % 2 == parity]
 
 
 def _is_entry(web, row, thing):

@@ -1,4 +1,4 @@
-"""What kind of value an argument is, as all files of the package ask for it."""
+"""What several files need: the kind of a value, the size of a web, lists and tuples looked at in plain ways."""
 
 from contentties.errors import TooMany
 
@@ -24,3 +24,24 @@ def need_few_places(web):
     """Raise the error of [L] for a web with too many places to go through all its lots."""
     if web.size > MOST_SEARCHED:
         raise TooMany(MOST_SEARCHED)
+
+
+def every_pick(lists):
+    """Return the list of all tuples with one item of each list, ascending if these are."""
+    picks = [()]
+    for choices in lists:
+        picks = [(*pick, item) for pick in picks for item in choices]
+    return picks
+
+
+def put_at(items, place, item):
+    """Return the tuple in which another item stands at a place."""
+    return (*items[:place], item, *items[place + 1:])
+
+
+def multiplied(numbers):
+    """Return the product of some numbers."""
+    found = 1
+    for number in numbers:
+        found = found * number
+    return found

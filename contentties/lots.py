@@ -1,6 +1,6 @@
 """Lots: two sets of places without a common place, and what they tell of a row."""
 
-from contentties.kinds import is_place, is_whole
+from contentties.kinds import every_pick, is_place, is_whole
 from contentties.webs import Web
 
 
@@ -36,7 +36,7 @@ def distance(one, other):
 
 def every_lots(size):
     """Yield all lots of the places below size, by their marks: 0 for neither, 1 for s, 2 for t."""
-    for marks in _mark_lists(size):
+    for marks in every_pick([(0, 1, 2)] * size):
         s = tuple([place for place, mark in enumerate(marks) if mark == 1])
         t = tuple([place for place, mark in enumerate(marks) if mark == 2])
         yield s, t
@@ -95,14 +95,6 @@ def _is_ascending(thing, size):
     if not isinstance(thing, tuple) or not all([is_place(place, size) for place in thing]):
         return False
     return all([place < following for place, following in zip(thing, thing[1:])])
-
-
-def _mark_lists(size):
-    """Return the ascending list of the tuples of size marks."""
-    lists = [()]
-    for _ in range(size):
-        lists = [(*marks, mark) for marks in lists for mark in (0, 1, 2)]
-    return lists
 
 
 def _joined(least, one, other):

@@ -1,6 +1,6 @@
 """Wide wants, and ties that can be settled ahead."""
 
-from contentties.kinds import need_few_places
+from contentties.kinds import need_few_places, put_at
 from contentties.lots import frames
 from contentties.spans import allowed_by, grown, slope
 from contentties.wants import Want
@@ -26,7 +26,7 @@ def ahead(web, wants, u, v):
 
 def _widest_from(web, all_frames, wants, place, least):
     """Return the Want of those of least, least + 2 .. that belong to the answer of widest."""
-    fixed = (*wants[:place], Want(least), *wants[place + 1:])
+    fixed = put_at(wants, place, Want(least))
     if not has_row(fixed, 0):
         return Want()
     return allowed_by(_lines(all_frames, fixed, (place,), 2), least, web.degrees[place])

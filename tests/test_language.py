@@ -37,6 +37,8 @@ INTERFACE = {
     "worst": "is_wants is_out_of has_row least_excess worst every",
     "corners": "corner_rows charter is_charter", "widest": "widest ahead",
     "spares": "spare lean settled nearest_barred",
+    "cases": "ceiling some is_tree leaves", "cells": "Cell Strip",
+    "lengths": "strip_excess worst_at lengths", "floors": "openings onwards closings floors is_floors",
 }
 
 
