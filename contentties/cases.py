@@ -73,7 +73,8 @@ def _searched(web, all_frames, wants):
     """Return ("row", row) with a granted row from wants, or ("none", tree)."""
     for frame in all_frames:
         if _ceiling_in(frame, wants) < 0:
-            return "none", ("lots", frame[0], frame[1])
+            s, t, _, _ = frame
+            return "none", ("lots", s, t)
     parted = [place for place, want in enumerate(wants) if len(want.blocks()) > 1]
     if not parted:
         return "row", _granted_row(web, all_frames, wants)

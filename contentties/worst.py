@@ -71,9 +71,10 @@ def _ends(want):
 
 def _least_row(frame, ends, parity):
     """Return a row of a parity with the least excess: the free row, or this after its cheapest turn."""
-    row = [high if place in frame[1] else low for place, (low, _, high, _) in enumerate(ends)]
+    _, t, _, groups = frame
+    row = [high if place in t else low for place, (low, _, high, _) in enumerate(ends)]
     turns = _turns_in_lots(frame, ends)
-    for piece, to_t in frame[3]:
+    for piece, to_t in groups:
         free = [place for place in piece if ends[place][1] is not None]
         if free:
             low, other = ends[free[0]][:2]

@@ -4,6 +4,7 @@ import itertools
 import random
 import unittest
 
+from contentties.cells import Cell, Strip
 from contentties.drafts import Draft
 from contentties.errors import TooMany
 from contentties.wants import Want
@@ -171,3 +172,20 @@ def random_row(rng, web, beyond=2):
 
 def seeded(number):
     return random.Random(number)
+
+
+def random_strip(rng, width, most=9, many=3, ties=(0, 1, 2, 3, 6)):
+    def cell():
+        wants = [Want(*[rng.randint(0, most) for _ in range(rng.randint(1, many))]) for _ in range(width)]
+        return Cell(wants, rng.choice(ties) if width == 2 else 0)
+    return Strip(cell(), cell(), cell(), [[rng.choice(ties) for _ in range(width)] for _ in range(width)])
+
+
+def mild_strip(rng, width):
+    """A strip with small wishes and many ties, of which all rows may be granted."""
+    def cell(low, high):
+        wants = [rng.choice((Want(low), Want(high), Want(low, high))) for _ in range(width)]
+        return Cell(wants, rng.choice((2, 4, 6)) if width == 2 else 0)
+    ends, middle = rng.choice(((1, 2), (0, 1), (2, 3))), rng.choice(((2, 3), (2, 4), (4, 5), (3, 6)))
+    return Strip(cell(*ends), cell(*middle), cell(*ends), [[rng.choice((3, 5, 6)) for _ in range(width)]
+                                                           for _ in range(width)])

@@ -9,7 +9,7 @@ from contentties.drafts import Draft
 from contentties.errors import TooMany, Wrong
 from contentties.wants import Want
 from contentties.webs import Web
-from tests.helpers import NO_INTEGERS, Agreeing, Case, seeded
+from tests.helpers import NO_INTEGERS, Agreeing, Case, random_strip, seeded
 
 ONE, OTHER = Want(0, 3), Want(9)
 NARROW, WIDE = Cell([ONE]), Cell([ONE, OTHER], 4)
@@ -149,16 +149,10 @@ class Equal(Case):
 
 
 class Strips(Case):
-    def random_strip(self, rng, width):
-        def cell():
-            wants = [Want(*[rng.randint(0, 9) for _ in range(rng.randint(1, 3))]) for _ in range(width)]
-            return Cell(wants, rng.randint(0, 6) if width == 2 else 0)
-        return Strip(cell(), cell(), cell(), [[rng.randint(0, 6) for _ in range(width)] for _ in range(width)])
-
     def test_webs_and_wants(self):
         rng = seeded(160)
         for width in (1, 2, 1, 2, 2):
-            strip = self.random_strip(rng, width)
+            strip = random_strip(rng, width)
             for count in (0, 1, 2, 5):
                 web, wants = strip.web_of(count), strip.wants_of(count)
                 self.assertIs(type(web), Web)
@@ -191,7 +185,7 @@ class Strips(Case):
     def test_mirrored(self):
         rng = seeded(161)
         for width in (1, 2, 2, 2):
-            strip = self.random_strip(rng, width)
+            strip = random_strip(rng, width)
             other = strip.mirrored()
             self.assertIs(type(other), Strip)
             self.assertEqual([other.head, other.cell, other.tail], [strip.tail, strip.cell, strip.head])
@@ -207,7 +201,7 @@ class Strips(Case):
         # Read from the other end, each cell by itself stands as it was.
         rng = seeded(162)
         for width in (1, 2):
-            strip = self.random_strip(rng, width)
+            strip = random_strip(rng, width)
             for count in (0, 1, 3):
                 order = {at * width + i: (count + 1 - at) * width + i for at in range(count + 2) for i in range(width)}
                 web = strip.web_of(count)

@@ -9,8 +9,11 @@ from contentties.cells import Cell, Strip
 from contentties.floors import closings, floors, is_floors, onwards, openings
 from contentties.lengths import lengths, strip_excess, worst_at
 from contentties.wants import Want
-from tests.helpers import NO_INTEGERS, Agreeing, Case, same, seeded
-from tests.test_lengths import EVEN, LATE, RISE, mild_strip, random_strip
+from tests.helpers import NO_INTEGERS, Agreeing, Case, mild_strip, random_strip, same, seeded
+
+RISE = Strip(Cell([Want(2)]), Cell([Want(4, 5)]), Cell([Want(2)]), [[6]])
+EVEN = Strip(Cell([Want(1)]), Cell([Want(2)]), Cell([Want(1)]), [[2]])
+LATE = Strip(Cell([Want(5), Want(6)], 3), Cell([Want(9), Want(8, 9)]), Cell([Want(6), Want(4)], 4), [[5, 6], [2, 5]])
 
 
 def all_states(width):

@@ -10,27 +10,10 @@ from contentties.lengths import lengths, strip_excess, worst_at
 from contentties.lots import excess, is_lots, is_row
 from contentties.wants import Want
 from contentties.worst import every, has_row, worst
-from tests.helpers import Case, plain_excess, seeded
+from tests.helpers import Case, mild_strip, plain_excess, random_strip, seeded
 
 RISE = Strip(Cell([Want(2)]), Cell([Want(4, 5)]), Cell([Want(2)]), [[6]])
 EVEN = Strip(Cell([Want(1)]), Cell([Want(2)]), Cell([Want(1)]), [[2]])
-
-
-def random_strip(rng, width, most=9, many=3, ties=(0, 1, 2, 3, 6)):
-    def cell():
-        wants = [Want(*[rng.randint(0, most) for _ in range(rng.randint(1, many))]) for _ in range(width)]
-        return Cell(wants, rng.choice(ties) if width == 2 else 0)
-    return Strip(cell(), cell(), cell(), [[rng.choice(ties) for _ in range(width)] for _ in range(width)])
-
-
-def mild_strip(rng, width):
-    """A strip with small wishes and many ties, of which all rows may be granted."""
-    def cell(low, high):
-        wants = [rng.choice((Want(low), Want(high), Want(low, high))) for _ in range(width)]
-        return Cell(wants, rng.choice((2, 4, 6)) if width == 2 else 0)
-    ends, middle = rng.choice(((1, 2), (0, 1), (2, 3))), rng.choice(((2, 3), (2, 4), (4, 5), (3, 6)))
-    return Strip(cell(*ends), cell(*middle), cell(*ends), [[rng.choice((3, 5, 6)) for _ in range(width)]
-                                                           for _ in range(width)])
 
 
 def random_lots(rng, size):

@@ -29,7 +29,7 @@ def all_granted(web, wants):
 
 def plain_spare(web, wants, u, v):
     """The answer of spare, by all choices; as many ties as a place wants at most are as good as any number."""
-    for number in range(max(want.high for want in wants) + 2):
+    for number in range(max(0, *[want.high for want in wants]) + 2):
         if all_granted(web.changed(u, v, number), wants):
             return number
     return None
