@@ -2,7 +2,9 @@
 
 from contentties.errors import TooMany
 
+GREATEST_NUMBER = 10 ** 9
 MOST_SEARCHED = 5
+MOST_CHOICES = 1024
 
 
 def is_whole(thing):
@@ -15,6 +17,11 @@ def is_from_to(thing, low, high):
     return is_whole(thing) and low <= thing <= high
 
 
+def is_number(thing):
+    """Return whether a value is a number."""
+    return is_from_to(thing, -GREATEST_NUMBER, GREATEST_NUMBER)
+
+
 def is_place(thing, size):
     """Return whether a value is one of the places below size."""
     return is_from_to(thing, 0, size - 1)
@@ -24,6 +31,23 @@ def need_few_places(web):
     """Raise the error of [L] for a web with too many places to go through all its lots."""
     if web.size > MOST_SEARCHED:
         raise TooMany(MOST_SEARCHED)
+
+
+def need_few_choices(web):
+    """Raise the errors of [L] and [P] for a web with too many places, or too many choices, to go through."""
+    need_few_places(web)
+    if multiplied([number + 1 for _, _, number in web.ties]) > MOST_CHOICES:
+        raise TooMany(MOST_CHOICES)
+
+
+def pairs_of(size):
+    """Return the ascending list of the pairs (u, v) of places below size, u below v."""
+    return [(u, v) for u in range(size) for v in range(u + 1, size)]
+
+
+def ascends(items):
+    """Return whether each item of a list or tuple is less than the next one."""
+    return all([item < following for item, following in zip(items, items[1:])])
 
 
 def every_pick(lists):

@@ -6,9 +6,8 @@ to list the integers.
 """
 
 from contentties.errors import TooMany, Wrong
-from contentties.kinds import is_from_to, is_whole
+from contentties.kinds import is_number, is_whole
 
-GREATEST_NUMBER = 10 ** 9
 MOST_NUMBERS = 40
 
 # What an operation on two sets keeps of the integers that are, in this order, in neither
@@ -140,16 +139,18 @@ def want_of_run(low, high):
     return Want(Runs(_run(low, high), ()))
 
 
-def _is_number(thing):
-    """Return whether a value is a number."""
-    return is_from_to(thing, -GREATEST_NUMBER, GREATEST_NUMBER)
+def want_of_runs(runs):
+    """Return the Want that has these as its longest runs, the even and the odd ones in ascending order each."""
+    evens = tuple([run for run in runs if run[0] % 2 == 0])
+    odds = tuple([run for run in runs if run[0] % 2 == 1])
+    return Want(Runs(evens, odds))
 
 
 def _need_numbers(low, high):
     """Raise Wrong for the first one of two arguments that is not a number."""
-    if not _is_number(low):
+    if not is_number(low):
         raise Wrong(0)
-    if not _is_number(high):
+    if not is_number(high):
         raise Wrong(1)
 
 
@@ -158,7 +159,7 @@ def _runs_of(numbers):
     if len(numbers) == 1 and isinstance(numbers[0], Runs):
         return numbers[0]
     for place, number in enumerate(numbers):
-        if not _is_number(number):
+        if not is_number(number):
             raise Wrong(place)
     ordered = sorted(set(numbers))
     if len(ordered) > MOST_NUMBERS:

@@ -130,6 +130,14 @@ def plain_distance(one, other):
     return sum(abs(a - b) for a, b in zip(one, other))
 
 
+def multiplied(numbers):
+    """The product of some numbers."""
+    product = 1
+    for number in numbers:
+        product *= number
+    return product
+
+
 def granted(web):
     """The rows that a small web grants."""
     return {kept.degrees for kept in all_choices(web)}

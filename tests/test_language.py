@@ -18,7 +18,8 @@ ALLOWED_BUILTINS = set(
 ALLOWED_METHODS = set(
     "append clear copy count endswith extend find get index insert isalnum isalpha isdigit islower isspace isupper "
     "items join keys ljust lower lstrip partition pop remove replace reverse rfind rjust rpartition rsplit rstrip "
-    "setdefault split splitlines startswith strip update upper values zfill bit_length".split()
+    "setdefault split splitlines startswith strip update upper values zfill bit_length "
+    "removeprefix removesuffix isascii add discard".split()
 )
 BARRED_WORDS = set(
     "register mro elements open input law version_info with_traceback add_note attrgetter breakpoint builtins compile "
@@ -39,6 +40,9 @@ INTERFACE = {
     "spares": "spare lean settled nearest_barred",
     "cases": "ceiling some is_tree leaves", "cells": "Cell Strip",
     "lengths": "strip_excess worst_at lengths", "floors": "openings onwards closings floors is_floors",
+    "listing": "numbers choices granted_rows row_counts Choices",
+    "moves": "moved_by steps_towards near_rows second_steps way is_way",
+    "turns": "turned trail is_trail turn is_turn", "tables": "is_tables displeasure distances squares added",
 }
 
 
