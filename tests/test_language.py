@@ -43,6 +43,8 @@ INTERFACE = {
     "listing": "numbers choices granted_rows row_counts Choices",
     "moves": "moved_by steps_towards near_rows second_steps way is_way",
     "turns": "turned trail is_trail turn is_turn", "tables": "is_tables displeasure distances squares added",
+    "best": "best is_best best_rows descent", "game": "in_turn is_keeper is_wisher allowed answers after",
+    "told": "told_back parting front fronts_hold", "notation": "write_web write read_want read_web read", "desk": "Desk",
 }
 
 
