@@ -1,22 +1,23 @@
 """Floors: tables of states that show that all even rows of a strip are granted, whatever its count."""
 
 from contentties.kinds import is_whole
-from contentties.lengths import START, endings, look_at_all, moves
+from contentties.lengths import look_at_all
+from contentties.states import START, Behind, Seams
 
 
 def openings(strip):
     """Return the ascending list of the states that the head comes to, with their greatest gains."""
-    return _gains(moves(strip, strip.head, START))
+    return _gains(Behind(Seams(strip), strip.head).moves(START))
 
 
 def onwards(strip, state):
     """Return the ascending list of the states that one more cell behind a state comes to, with their greatest gains."""
-    return _gains(moves(strip, strip.cell, state))
+    return _gains(Behind(Seams(strip), strip.cell).moves(state))
 
 
 def closings(strip, state):
     """Return the ascending list of the parities of rows with the tail behind a state, with their greatest gains."""
-    return _gains(endings(strip, state))
+    return _gains(Behind(Seams(strip), strip.tail).endings(state))
 
 
 def floors(strip):
@@ -36,7 +37,9 @@ def is_floors(strip, thing):
     amounts = {state: amount for state, amount in thing}
     if not _are_reached(amounts, openings(strip), 0):
         return False
-    return all([_goes_on(strip, amounts, state) and _ends_well(strip, state, amounts[state]) for state in amounts])
+    seams = Seams(strip)
+    cells, tails = Behind(seams, strip.cell), Behind(seams, strip.tail)
+    return all([_goes_on(cells, amounts, state) and _ends_well(tails, state, amounts[state]) for state in amounts])
 
 
 def _gains(found):
@@ -73,11 +76,11 @@ def _are_reached(amounts, found, ahead):
     return all([state in amounts and amounts[state] >= ahead + gain for state, gain in found])
 
 
-def _goes_on(strip, amounts, state):
+def _goes_on(cells, amounts, state):
     """Return whether all states that one more cell comes to behind a state are there as they must be."""
-    return _are_reached(amounts, onwards(strip, state), amounts[state])
+    return _are_reached(amounts, _gains(cells.moves(state)), amounts[state])
 
 
-def _ends_well(strip, state, amount):
+def _ends_well(tails, state, amount):
     """Return whether no even row is barred with the tail behind a state."""
-    return all([parity == 1 or amount + gain < 2 for parity, gain in closings(strip, state)])
+    return all([parity == 1 or amount + gain < 2 for parity, gain in _gains(tails.endings(state))])

@@ -1,43 +1,32 @@
-"""Lengths: strips of every count, looked at cell by cell.
+"""Lengths: strips of every count, looked at cell by cell, from state to state [72]."""
 
-Lots give each place a mark: "s", "t", or "n" for neither. Cell by cell they come to states,
-as [72] tells them; the state START stands for what is ahead of the head.
-"""
-
-from contentties.cells import cells_of
-from contentties.kinds import every_pick
+from contentties.states import START, Behind, Seams, odd_ends
 from contentties.worst import has_row
-
-START = (0, (), False)
-MARKS = ("s", "t", "n")
-WORTH = {"s": -1, "t": 1, "n": 0}
 
 
 class Track:
     """The states to which the head and some cells of a strip come, count by count.
 
-    A layer is a dict from each state that is come to with so many cells, to the greatest sum
-    of gains, the state ahead of it, and the marks and numbers that lead from there to it.
+    A layer is a dict from each state that is come to with so many cells to the greatest sum of gains, and
+    the state ahead of it.
     """
 
     def __init__(self, strip):
-        self.whole = strip
-        opening = moves(strip, strip.head, START)
-        self.layers = [{state: (gain, START, marks, numbers) for state, (gain, marks, numbers) in opening.items()}]
-        self.behind = {}
-        self.closed = {}
+        seams = Seams(strip)
+        self.cells = Behind(seams, strip.cell)
+        self.tails = Behind(seams, strip.tail)
+        self.opening = Behind(seams, strip.head).moves(START)
+        self.layers = [{state: (self.opening[state][0], START) for state in self.opening}]
 
     def go_on(self):
         """Add the layer of one more cell."""
         last = self.layers[-1]
         added = {}
         for state in last:
-            if state not in self.behind:
-                self.behind[state] = moves(self.whole, self.whole.cell, state)
-            for reached, (gain, marks, numbers) in self.behind[state].items():
-                total = last[state][0] + gain
-                if reached not in added or total > added[reached][0]:
-                    added[reached] = (total, state, marks, numbers)
+            ahead = last[state][0]
+            for reached, (gain, _, _) in self.cells.moves(state).items():
+                if reached not in added or ahead + gain > added[reached][0]:
+                    added[reached] = (ahead + gain, state)
         self.layers.append(added)
 
     def ending(self, parity):
@@ -48,10 +37,9 @@ class Track:
         last = self.layers[-1]
         found = []
         for state in last:
-            if state not in self.closed:
-                self.closed[state] = endings(self.whole, state)
-            if parity in self.closed[state]:
-                gain, marks, numbers = self.closed[state][parity]
+            closing = self.tails.endings(state)
+            if parity in closing:
+                gain, marks, numbers = closing[parity]
                 found.append((last[state][0] + gain, state, marks, numbers))
         return max(found, default=None)
 
@@ -59,11 +47,15 @@ class Track:
         """Return the amount, the row and the lots for what ending has returned."""
         amount, state, marks, numbers = end
         all_marks, all_numbers = [marks], [numbers]
-        for layer in self.layers[::-1]:
-            _, ahead, marks, numbers = layer[state]
+        for layer in self.layers[:0:-1]:
+            ahead = layer[state][1]
+            _, marks, numbers = self.cells.moves(ahead)[state]
             all_marks.append(marks)
             all_numbers.append(numbers)
             state = ahead
+        _, marks, numbers = self.opening[state]
+        all_marks.append(marks)
+        all_numbers.append(numbers)
         row = tuple([number for of_cell in all_numbers[::-1] for number in of_cell])
         by_place = [mark for of_cell in all_marks[::-1] for mark in of_cell]
         return amount, row, (_places_with("s", by_place), _places_with("t", by_place))
@@ -75,13 +67,15 @@ def strip_excess(strip, count, row, lots):
     for mark, places in zip(("s", "t"), lots):
         for place in places:
             marks[place] = mark
+    seams = Seams(strip)
+    cells = [Behind(seams, strip.head)] + [Behind(seams, strip.cell)] * count + [Behind(seams, strip.tail)]
     state = START
     total = 0
-    for at, cell in enumerate(cells_of(strip, count)):
-        first, behind = at * strip.width, (at + 1) * strip.width
-        state, gain = put_behind(strip, cell, state, tuple(marks[first:behind]), row[first:behind])
+    for at, cell in enumerate(cells):
+        first, beyond = at * strip.width, (at + 1) * strip.width
+        state, gain = cell.put(state, tuple(marks[first:beyond]), row[first:beyond])
         total = total + gain
-    return -(total + _odd_ends(state))
+    return -(total + odd_ends(state))
 
 
 def worst_at(strip, count, parity):
@@ -122,103 +116,6 @@ def look_at_all(strip):
         before = sums
         sums = _raised(before, track.layers[-1])
     return "every", sums
-
-
-def moves(strip, cell, state):
-    """Return a dict from each state that a cell behind a state comes to, to the greatest gain, marks and numbers."""
-    best = {}
-    for marks in every_pick([MARKS] * len(cell)):
-        for numbers in every_pick([_best_numbers(mark, want) for mark, want in zip(marks, cell.wishes)]):
-            reached, gain = put_behind(strip, cell, state, marks, numbers)
-            if reached not in best or gain > best[reached][0]:
-                best[reached] = (gain, marks, numbers)
-    return best
-
-
-def endings(strip, state):
-    """Return a dict from each parity of the whole row, with the tail behind a state, to the same with all ends."""
-    best = {}
-    for reached, (gain, marks, numbers) in moves(strip, strip.tail, state).items():
-        total = gain + _odd_ends(reached)
-        if reached[0] not in best or total > best[reached[0]][0]:
-            best[reached[0]] = (total, marks, numbers)
-    return best
-
-
-def put_behind(strip, cell, state, marks, numbers):
-    """Return the state and the gain when a cell with these marks and numbers is put behind a state."""
-    parity, last, _ = state
-    weights = [number + _ties_to_t(strip, cell, last, marks, place) for place, number in enumerate(numbers)]
-    joined = marks == ("n", "n") and cell.inner > 0
-    gain = sum([WORTH[mark] * number for mark, number in zip(marks, numbers)]) - _toll(strip, cell, last, marks)
-    for piece, odd in _pieces(state):
-        reached = [place for place, mark in enumerate(marks) if mark == "n" and _ties(strip, piece, place) > 0]
-        weight = odd + sum([_ties(strip, piece, place) for place, mark in enumerate(marks) if mark == "t"])
-        if reached:
-            weights[reached[0]] = weights[reached[0]] + weight
-            joined = joined or len(reached) == 2
-        else:
-            gain = gain + weight % 2
-    if joined:
-        weights = [sum(weights)] * 2
-    told = tuple([_mark_of(mark, weight) for mark, weight in zip(marks, weights)])
-    return ((parity + sum(numbers)) % 2, told, joined), gain
-
-
-def _best_numbers(mark, want):
-    """Return the list of the best integer of each parity that a want has, for a place with a mark."""
-    if mark == "s":
-        ends = [want.least(0), want.least(1)]
-    else:
-        ends = [want.greatest(0), want.greatest(1)]
-    return [end for end in ends if end is not None]
-
-
-def _ties(strip, piece, place):
-    """Return the number of ties between some places of the last cell and one of the new cell."""
-    return sum([strip.onward[member][place] for member in piece])
-
-
-def _ties_to_t(strip, cell, last, marks, place):
-    """Return the number of ties between a place of the new cell and all places in t."""
-    behind = [cell.inner for other, mark in enumerate(marks) if other != place and mark == "t"]
-    return _ties(strip, [member for member, mark in enumerate(last) if mark == "t"], place) + sum(behind)
-
-
-def _toll(strip, cell, last, marks):
-    """Return what all ties of a new cell cost."""
-    inner = cell.inner * _toll_of_tie(marks[0], marks[-1])
-    onward = [strip.onward[member][place] * _toll_of_tie(one, other)
-              for member, one in enumerate(last) for place, other in enumerate(marks)]
-    return inner + sum(onward)
-
-
-def _toll_of_tie(one, other):
-    """Return what a tie between places with two marks costs: 1 for each end in t, nothing if the other is in s."""
-    if one == "s" or other == "s":
-        return 0
-    return (one, other).count("t")
-
-
-def _pieces(state):
-    """Return the pieces of a state that may go on: tuples of their places and their parity."""
-    _, marks, joined = state
-    found = [((place,), 1 if mark == "o" else 0) for place, mark in enumerate(marks) if mark in ("e", "o")]
-    if joined:
-        return [((0, 1), found[0][1])]
-    return found
-
-
-def _odd_ends(state):
-    """Return the number of odd pieces that come to their end behind a state."""
-    return sum([odd for _, odd in _pieces(state)])
-
-
-def _mark_of(mark, weight):
-    """Return the mark that a state has for a place, given the weight of its piece."""
-    if mark != "n":
-        return mark
-    return "o" if weight % 2 == 1 else "e"
 
 
 def _places_with(sought, marks):
