@@ -114,12 +114,12 @@ def _is_bundle(tie, size):
 
 
 def _want_at(web, place, row):
-    """Return the want that the line of a place tells, None if the line cannot stand there."""
+    """Return the want that the line of a place tells, None if the line cannot stand there, as with an empty want."""
     head = _head_of(place)
     if place >= web.size or not row.startswith(head):
         return None
     want = want_in(row.removeprefix(head))
-    return want if want is not None and want else None
+    return want if want else None
 
 
 def _head_of(place):

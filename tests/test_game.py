@@ -205,6 +205,21 @@ class InTurn(Case):
             told, table = in_turn(full, wants)
             self.truth((plain_is_keeper if told == "keeps" else plain_is_wisher)(full, wants, table), True)
 
+    def test_needs_that_several_plays_come_to(self):
+        full = complete(4, 2)
+        for lost, wants, told in (
+                (((0, 1, 1), (1, 2, 1), (1, 3, 2)), (Want(1), Want(0, 2), Want(2), Want(0, 1)), "keeps"),
+                (((1, 3, 1), (2, 3, 1)), (Want(1, 3), Want(3), Want(1, 2), Want(0, 1)), "keeps"),
+                (((0, 1, 1), (0, 2, 1), (2, 3, 1)), (Want(3), Want(0, 1), Want(1, 3), Want(1, 2, 3)), "loses"),
+                (((0, 1, 1), (1, 2, 1), (1, 3, 2)), (Want(0, 2), Want(0), Want(0, 2), Want(0, 3)), "loses")):
+            self.same(self.check(full - Web(4, lost), wants), told)
+        rng = seeded(554)
+        for _ in range(60):
+            web = Web(4, [(u, v, rng.randint(1, 2)) for u, v in itertools.combinations(range(4), 2)])
+            wants = tuple(Want(*[rng.randint(0, 3) for _ in range(rng.randint(1, 2))]) for _ in range(4))
+            told, table = in_turn(web, wants)
+            self.truth((plain_is_keeper if told == "keeps" else plain_is_wisher)(web, wants, table), True)
+
     def test_the_order_of_places_counts(self):
         # The same web and wants, the place with two numbers being the last or the first one.
         self.same(self.check(TRIANGLE, LOST), "loses")

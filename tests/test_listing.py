@@ -31,8 +31,8 @@ def strange_rows(web):
     if web.size == 0:
         return []
     rest = (0,) * (web.size - 1)
-    return [(1, *rest), (-1, *rest), (-2, *rest), (10 ** 12, *rest), (-10 ** 12, *rest), tuple(d + 1 for d in web.degrees),
-            tuple(d + 2 for d in web.degrees)]
+    return [(1, *rest), (-1, *rest), (-2, *rest), (10 ** 12, *rest), (-10 ** 12, *rest), (-1,) * web.size,
+            (-10 ** 12,) * web.size, tuple(d + 1 for d in web.degrees), tuple(d + 2 for d in web.degrees)]
 
 
 class Interface(Case):

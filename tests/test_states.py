@@ -18,6 +18,10 @@ WIDE = Strip(Cell([Want(0, 1, 4, 5, 9), Want(2, 3, 7)], 2), Cell([Want(1, 2, 6),
 def some_strips():
     rng = seeded(620)
     strips = [WIDE]
+    # Without inner ties the places of a cell are joined only by what stands ahead of them.
+    plain = Cell([Want(1, 2), Want(2, 3)])
+    for onward in ([[1, 1], [2, 1]], [[1, 2], [0, 0]], [[0, 0], [3, 1]], [[1, 0], [0, 1]], [[0, 2], [1, 0]]):
+        strips.append(Strip(plain, plain, Cell([Want(0), Want(1, 4)], 1), onward))
     for width in (1, 2):
         for ties in ((0, 1, 2, 3, 6), (0, 0, 1), (2, 4, 6), (0, 3)):
             strips.append(random_strip(rng, width, ties=ties))

@@ -242,6 +242,15 @@ class IsTrail(Case):
         for thing in wrong + list(NO_INTEGERS) + [0, 1, -1]:
             self.truth(is_trail(one, other, step, thing), False, repr(thing))
 
+    def test_bundles_passed_twice(self):
+        # Both passes over (0, 1) have the sign of the difference, one of them goes the other way.
+        one, walk = Web(5, [(1, 2, 1), (1, 3, 1)]), [0, 1, 2, 3, 1, 0]
+        for number in (1, 2, 3):
+            other = Web(5, [(0, 1, number), (2, 3, 1), (0, 4, 1)])
+            self.truth(is_trail(one, other, (0, 1), walk), number > 1)
+            self.truth(plain_is_trail(one, other, (0, 1), walk), number > 1)
+            self.truth(is_trail(other, one, (0, -1), walk), number > 1)
+
     def test_the_last_step_counts(self):
         # The walk fits, but there is nothing left to be raised at its end.
         one, other = Web(4, [(1, 2, 1)]), Web(4, [(0, 1, 1), (2, 3, 1)])
@@ -348,6 +357,11 @@ class IsTurn(Case):
         self.truth(is_turn(ONE, OTHER, [0, 3, 2, 1, 0, 3, 2, 1, 0]), False)
         self.truth(is_turn(ONE, OTHER, [0, 1, 2, 3, 0]), False)
         self.truth(is_turn(OTHER, ONE, [0, 1, 2, 3, 0]), True)
+        # A closed walk with an odd number of passes leads to the other web, but the degrees differ.
+        one, other = Web(3, [(1, 2, 1)]), Web(3, [(0, 1, 1), (0, 2, 1)])
+        self.same(turned(one, [0, 1, 2, 0], 1), other)
+        self.truth(is_turn(one, other, [0, 1, 2, 0]), False)
+        self.truth(is_turn(other, one, [1, 2, 0, 1]), False)
         # There and back beside the turn changes nothing, but does not fit.
         self.truth(is_turn(ONE, OTHER, [0, 3, 2, 1, 0, 2, 0]), False)
 
